@@ -736,6 +736,9 @@ func TestSixtyBelow(t *testing.T) {
 	rec := tree(impl.NkRec, "f", inFunction(tree(impl.NkBreak, "")))
 	wantPlain(t, down(60, rec), strings.Repeat("( - ", 60)+"local function f ;"+strings.Repeat(" )", 60))
 	wantPlain(t, down(59, rec), strings.Repeat("( - ", 59)+"local function f ( ) end ;"+strings.Repeat(" )", 59))
+	wantPlain(t, down(58, rec), strings.Repeat("( - ", 58)+"local function f ( ) end ;"+strings.Repeat(" )", 58))
+	wantPlain(t, down(59, tree(impl.NkRec, "f", a)), strings.Repeat("( - ", 59)+"local function f a ;"+strings.Repeat(" )", 59))
+	wantPlain(t, down(60, tree(impl.NkRec, "f", a)), strings.Repeat("( - ", 60)+"local function f ;"+strings.Repeat(" )", 60))
 	wantPlain(t, down(57, rec), strings.Repeat("( - ", 57)+"local function f ( ) break ; end ;"+strings.Repeat(" )", 57))
 	// A list that holds itself goes down without an end.
 	ring := []impl.Node{{Kind: impl.NkUn, Text: "#"}}
