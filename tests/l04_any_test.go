@@ -11,9 +11,10 @@ import (
 	"loop.example/g00258/impl"
 )
 
-// wantNoProgram asks for a tree that is ended at once, whatever the fuel.
+// wantNoProgram asks for a tree that is ended at once, whatever the fuel, and that has no code.
 func wantNoProgram(t *testing.T, what string, n impl.Node) {
 	t.Helper()
+	wantNoCode(t, what, n)
 	for _, fuel := range []int{-1 << 63, -1, 0, 1, 2, 10, 1000, muchFuel, 1<<63 - 1} {
 		o := impl.Direct(n, fuel)
 		if o.Kind != impl.EndFuel || o.Value != (impl.Value{}) || len(o.Out) != 0 {
