@@ -359,7 +359,7 @@ func wantBoth(t *testing.T, n impl.Node, fuel int) impl.Outcome {
 	return whole
 }
 
-// wantRun asks how a source ends (as ended tells it), at all fuels, and how much of that it takes.
+// wantRun asks how a source ends (as ended tells it), at all fuels and by its machine, and how much of that it takes.
 func wantRun(t *testing.T, src string, want string) int {
 	t.Helper()
 	n, line := impl.Read(src)
@@ -374,6 +374,7 @@ func wantRun(t *testing.T, src string, want string) int {
 		t.Fatalf("second: %.900s\n%.900s, not\n%.900s", src, got, want)
 	}
 	wantFuels(t, n, whole, printed)
+	wantMachine(t, n, want)
 	return len(printed)
 }
 

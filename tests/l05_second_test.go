@@ -428,10 +428,10 @@ func elderOperate(op string, a impl.Value, b impl.Value) (impl.Value, string) {
 	switch {
 	case op == "..":
 		return impl.Concat(a, b)
-	case slices.Contains(arithSigns, op):
-		return impl.Arith(op, a, b)
+	case slices.Contains(compareSigns, op):
+		return impl.Compare(op, a, b)
 	}
-	return impl.Compare(op, a, b)
+	return impl.Arith(op, a, b)
 }
 
 func (m *elderMachine) doCall(called impl.Value, list []impl.Value) impl.Value {
