@@ -9,19 +9,29 @@ import (
 	"loop.example/g00258/impl"
 )
 
-// longPrograms hold, in turn, programs that run on, and that end in each way; tables, cells, functions and frames with Guard are kept in marks.
-func longPrograms(t *testing.T) [][]impl.Proto {
-	var list [][]impl.Proto
-	for _, src := range append(slices.Clone(lasting), everyForm, "", "return 5", "error()", "y = 1", "break",
+// longSources are, in turn, of programs that run on, and that end in each way; tables, cells, functions and frames with Guard are kept in marks.
+func longSources() []string {
+	return append(slices.Clone(lasting), everyForm, "", "return 5", "error()", "y = 1", "break",
 		"local t = {} local i = 0 while true do i = i + 1 t[i % 50] = {} t[i % 50].x = i end",
 		"local i = 0 while true do i = i + 1 local x = i end",
 		"local i = 0 while i < 700 do i = i + 1 end error({})",
 		"local i = 0 while i < 300 do i = i + 1 print(i) end",
 		"local function f(n) print(n) if n > 20 then error(n) end return f(n + 1) end while true do print(try(function() f(1) end)) end",
 		"local fs = {} local i = 0 while i < 60 do i = i + 1 local n = i fs[i] = function(a) n = n + a return n end end while i > 0 do i = i - 1 print(fs[i + 1](i)) end return fs",
-		"local s = \"\" local i = 0 while i < 1200 do i = i + 1 s = s .. \"ab\" end return s") {
+		"local s = \"\" local i = 0 while i < 1200 do i = i + 1 s = s .. \"ab\" end return s")
+}
+
+func longPrograms(t *testing.T) [][]impl.Proto {
+	var list [][]impl.Proto
+	for _, src := range longSources() {
 		list = append(list, compiled(t, src))
 	}
+	return append(list, codeByHand()...)
+}
+
+// codeByHand ends in each way.
+func codeByHand() [][]impl.Proto {
+	var list [][]impl.Proto
 	for _, kind := range []int{impl.VmDone, impl.VmError, impl.VmBad} {
 		list = append(list, endingAt(kind, 50), endingAt(kind, 351))
 	}
