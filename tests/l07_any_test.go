@@ -261,19 +261,24 @@ func (w *wanderer) spoil(t *impl.Trail, other []impl.Proto) {
 	}
 }
 
+// anyTrail is one that was written by hand, and spoilt one time in two.
+func anyTrail(seed int, lists [][]impl.Proto) wanderer {
+	w := wanderer{dice: dice{seed: uint64(seed)}, road: roadOf(lists[seed*7%len(lists)])}
+	w.trail = w.handTrail()
+	if w.below(2) == 0 {
+		w.spoil(&w.trail, lists[w.below(len(lists))])
+	}
+	w.trail = copyOf(w.trail)
+	return w
+}
+
 // Promise 13: trails of any make, held against the second opinion.
 func TestAnyTrails(t *testing.T) {
 	t.Parallel()
 	lists := longPrograms(t)
 	right, wrong := 0, 0
 	for seed := range 900 {
-		list := lists[seed%len(lists)]
-		w := wanderer{dice: dice{seed: uint64(seed)}, road: roadOf(list)}
-		w.trail = w.handTrail()
-		if w.below(2) == 0 {
-			w.spoil(&w.trail, lists[w.below(len(lists))])
-		}
-		w.trail = copyOf(w.trail)
+		w := anyTrail(seed, lists)
 		want, step := elderTrailOk(w.trail), w.far()
 		if got := trailAsked(t, w.trail, impl.TrailOk); got != want {
 			t.Fatal("TrailOk is", got, "at", w.trail.Now.Steps, "with marks at", stepsOfMarks(w.trail))

@@ -169,6 +169,7 @@ func wantNotRight(t *testing.T, what string, trail impl.Trail) {
 		t.Fatal("TrailEnd of Kind", trail.Now.Kind, what)
 	}
 	wantNoStops(t, trail)
+	wantUnchanged(t, trail)
 }
 
 // turnEach does something for each thing within v made another: numbers one more and one less, flags, texts, lists one longer and one shorter. Then v is as it was.

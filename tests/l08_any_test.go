@@ -188,12 +188,7 @@ func TestStopsOfAnyTrails(t *testing.T) {
 	said := map[string]int{}
 	wrong := 0
 	for seed := range 700 {
-		w := wanderer{dice: dice{seed: uint64(seed)}, road: roadOf(lists[seed*7%len(lists)])}
-		w.trail = w.handTrail()
-		if w.below(2) == 0 {
-			w.spoil(&w.trail, lists[w.below(len(lists))])
-		}
-		w.trail = copyOf(w.trail)
+		w := anyTrail(seed, lists)
 		if !elderTrailOk(w.trail) {
 			wrong++
 			if wrong%4 == 0 {

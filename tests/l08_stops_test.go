@@ -113,15 +113,16 @@ func TestAtLineStepByStep(t *testing.T) {
 	wantSeen(t, "local a\nbreak\nreturn", "1 . 2 .")
 }
 
-func TestAtLineOfOneInstruction(t *testing.T) {
-	code := func(lines ...int) []impl.Instr {
-		var code []impl.Instr
-		for _, line := range lines {
-			code = append(code, impl.Instr{Line: line})
-		}
-		return code
+func codeOfLines(lines ...int) []impl.Instr {
+	var code []impl.Instr
+	for _, line := range lines {
+		code = append(code, impl.Instr{Line: line})
 	}
-	list := []impl.Proto{{Code: code(3, 3, 4, 4, 4, 3, 9)}, {Code: code(3, 4)}, {}, {Code: code(7)}, {Code: code(0, 0, 1, 0, -2, -2, math.MaxInt, math.MinInt)}}
+	return code
+}
+
+func TestAtLineOfOneInstruction(t *testing.T) {
+	list := []impl.Proto{{Code: codeOfLines(3, 3, 4, 4, 4, 3, 9)}, {Code: codeOfLines(3, 4)}, {}, {Code: codeOfLines(7)}, {Code: codeOfLines(0, 0, 1, 0, -2, -2, math.MaxInt, math.MinInt)}}
 	for number, lines := range [][]int{{3, 0, 4, 0, 0, 3, 9}, {3, 4}, {}, {7}, {0, 0, 1, 0, -2, 0, math.MaxInt, math.MinInt}} {
 		for pc, want := range append(lines, 0, 0) {
 			wantAtLine(t, list, impl.Vm{Frames: []impl.Frame{{Proto: number, Pc: pc}}}, want)
@@ -571,15 +572,20 @@ func TestStopsAgainAndAgain(t *testing.T) {
 	}
 }
 
+// A trailToSpoil has marks at these steps, and is at the last one of them.
+type trailToSpoil struct {
+	src   string
+	every int
+	steps []int
+}
+
+var trailsToSpoil = []trailToSpoil{{calling, 5, []int{0, 11, 30, 24}}, {failing, 7, []int{0, 1, 14, 19}}, {"local a = {}\na.x = \"y\"\nerror(a)\n", 3, []int{0, 2, 6, 9}}}
+
 // One thing of a trail after the other is turned: what is answered then hangs on whether it is right still.
 func TestStopsOfTrailsThatAreSpoilt(t *testing.T) {
 	t.Parallel()
 	right, wrong := 0, 0
-	for _, c := range []struct {
-		src   string
-		every int
-		steps []int
-	}{{calling, 5, []int{0, 11, 30, 24}}, {failing, 7, []int{0, 1, 14, 19}}, {"local a = {}\na.x = \"y\"\nerror(a)\n", 3, []int{0, 2, 6, 9}}, {endless, 50, []int{0, 4, 50, 4000}}} {
+	for _, c := range append(slices.Clone(trailsToSpoil), trailToSpoil{endless, 50, []int{0, 4, 50, 4000}}) {
 		o := outlookOf(compiled(t, c.src))
 		trail := o.trail(c.every, c.steps[3], c.steps[:3]...)
 		if !impl.TrailOk(trail) {
