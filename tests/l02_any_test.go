@@ -304,6 +304,7 @@ func (g *grower) spellAt(n impl.Node, least int) string {
 }
 
 func TestProgramsComeBack(t *testing.T) {
+	t.Parallel()
 	g := grower{dice: dice{seed: 5}}
 	var met [21]int
 	for range 6000 {
@@ -387,6 +388,7 @@ func (d *dice) token() impl.Token {
 }
 
 func TestAnyWords(t *testing.T) {
+	t.Parallel()
 	d := dice{seed: 7}
 	for range 40000 {
 		var list []impl.Token

@@ -466,6 +466,7 @@ func (m *heapModel) length(n int) int {
 
 // Promise 3, its second half: what is put into a table is there, and nothing else is changed.
 func TestHeapsStepByStep(t *testing.T) {
+	t.Parallel()
 	d := dice{seed: 32}
 	values := properValues()
 	for round := range 8 {
@@ -508,6 +509,7 @@ func stepAndAsk(t *testing.T, h *impl.Heap, m *heapModel, n int, k impl.Value, v
 }
 
 func TestTablesFilledUp(t *testing.T) {
+	t.Parallel()
 	h := impl.Heap{Tables: [][]impl.Pair{nil, longTable(2)}}
 	m := heapModel{order: [][]impl.Value{nil, {intOf(1), intOf(2)}}, has: []map[impl.Value]impl.Value{{}, {intOf(1): textOf("v0"), intOf(2): textOf("v1")}}}
 	for n := range 203 {
@@ -553,6 +555,7 @@ func otherPairs(pairs []impl.Pair, k impl.Value) []impl.Pair {
 
 // Promise 13, for this chapter: heaps and values of any make are answered, and nothing is written into them.
 func TestAnyHeaps(t *testing.T) {
+	t.Parallel()
 	d := dice{seed: 33}
 	pools := [][]impl.Value{anyValues(), {{}, intOf(1), intOf(2), textOf("a"), {Kind: impl.KInt, N: 1, S: "x"}}}
 	for round := range 6000 {

@@ -131,6 +131,7 @@ func wantChangesRefused(t *testing.T, whole *impl.Node, at *impl.Node) int {
 }
 
 func TestNodesChanged(t *testing.T) {
+	t.Parallel()
 	for _, src := range []string{ordinary, everyForm} {
 		n, _ := impl.Read(src)
 		whole := bare(n)
@@ -452,6 +453,7 @@ func (d *doer) program() string {
 }
 
 func TestAnyPrograms(t *testing.T) {
+	t.Parallel()
 	var ends [3]int
 	words := map[string]int{}
 	taken, lines := 0, 0
@@ -495,6 +497,7 @@ func wantSomeFuels(t *testing.T, n impl.Node, whole impl.Outcome, printed []int)
 
 // Promise 13, for this chapter: trees of any make, and of any program's forms, which mostly are refused or end soon.
 func TestDirectOfAnyTrees(t *testing.T) {
+	t.Parallel()
 	g := grower{dice: dice{seed: 11}}
 	programs := 0
 	for range 4000 {

@@ -305,6 +305,7 @@ func TestTry(t *testing.T) {
 
 // What became of cells, tables, functions and lines stays as it is behind an error.
 func TestTryBringsNothingBack(t *testing.T) {
+	t.Parallel()
 	wantRuns(t,
 		"local x = 1 try(function() x = 2 error(0) end) return x", "done 2",
 		"local t = {} try(function() t.k = 3 error(0) end) return t.k", "done 3",
@@ -322,6 +323,7 @@ func TestTryBringsNothingBack(t *testing.T) {
 }
 
 func TestTooManyCells(t *testing.T) {
+	t.Parallel()
 	loop := func(count int, body string) string {
 		return "local i = 0 while i < " + strconv.Itoa(count) + " do i = i + 1 " + body + " end "
 	}

@@ -258,6 +258,7 @@ func allWords(list []impl.Proto) string {
 
 // Promise 13, for this chapter: lists of any make, of which some are right.
 func TestAnyCode(t *testing.T) {
+	t.Parallel()
 	d := dice{seed: 51}
 	right, wrong := 0, 0
 	for range 60000 {
@@ -377,6 +378,7 @@ func (c *chooser) expression(depth int) string {
 }
 
 func TestCodeOfAnyNames(t *testing.T) {
+	t.Parallel()
 	ups, deeper, again := 0, 0, 0
 	for seed := range 6000 {
 		c := chooser{dice: dice{seed: uint64(seed)}, budget: 10 + seed%120}
@@ -408,6 +410,7 @@ func TestCodeOfAnyNames(t *testing.T) {
 
 // Promise 5 by what code does: done step by step it ends as the tree does.
 func TestCodeOfAnyPrograms(t *testing.T) {
+	t.Parallel()
 	n, _ := impl.Read(everyForm)
 	wantRight(t, n)
 	wantShownAgain(t, n)
@@ -434,6 +437,7 @@ func TestCodeOfAnyPrograms(t *testing.T) {
 
 // Trees of any make have code where they are programs, whatever their lines are.
 func TestCodeOfAnyTrees(t *testing.T) {
+	t.Parallel()
 	g := grower{dice: dice{seed: 52}}
 	programs := 0
 	for round := range 8000 {

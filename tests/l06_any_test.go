@@ -166,6 +166,7 @@ func (d *maker) fill(m *impl.Vm) {
 
 // Promise 13, and what a step does: machines of any make, held against the second opinion.
 func TestAnyMachines(t *testing.T) {
+	t.Parallel()
 	var ends [4]int
 	var done [20]int
 	words := map[string]int{}
@@ -292,6 +293,7 @@ func wantMeaning(t *testing.T, n impl.Node, fuel int) impl.Outcome {
 }
 
 func TestMachinesOfAnyPrograms(t *testing.T) {
+	t.Parallel()
 	var ends [3]int
 	words := map[string]int{}
 	for seed := range 2500 {

@@ -321,6 +321,7 @@ func TestStepOfCallsOfFunctions(t *testing.T) {
 }
 
 func TestStepOfCallsOfHosts(t *testing.T) {
+	t.Parallel()
 	printed := func(s string) func(m *impl.Vm) { return func(m *impl.Vm) { m.Out = append(m.Out, s) } }
 	nought := impl.Value{}
 	call := func(count int) impl.Instr { return impl.Instr{Op: impl.OpCall, A: count} }
@@ -354,6 +355,7 @@ func TestStepOfCallsOfHosts(t *testing.T) {
 }
 
 func TestStepOfJumps(t *testing.T) {
+	t.Parallel()
 	to := func(pc int) func(m *impl.Vm) { return func(m *impl.Vm) { topOf(m).Pc = pc } }
 	// A place may be the one behind all instructions, where there is none.
 	for pc := 0; pc <= 5; pc++ {

@@ -190,6 +190,7 @@ func TestBackAndOnAgain(t *testing.T) {
 }
 
 func TestTrailsOfAnyPrograms(t *testing.T) {
+	t.Parallel()
 	went := map[string]int{}
 	for seed := range 400 {
 		d := doer{dice: dice{seed: uint64(seed)}, budget: 10 + seed%90}

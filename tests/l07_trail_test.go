@@ -424,6 +424,7 @@ func TestTrailsThatAreNotRight(t *testing.T) {
 
 // Whatever is turned in a mark or in Now, it is no longer what the one ahead of it is.
 func TestAnythingTurnedInAMark(t *testing.T) {
+	t.Parallel()
 	guarded := "local t = {} t.a = \"x\" t[1] = print local function f(a, b) local c = function() return t end print(a) b = c() t = b t[2] = b error({}) end local g = function() return f(1) end while true do print(try(g)) end"
 	count := 0
 	for _, c := range []struct {

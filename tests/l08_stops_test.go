@@ -253,6 +253,7 @@ func TestLineOfTwoFunctions(t *testing.T) {
 
 // The machine of endless is at line 1 at each third step, so at 9000, too.
 func TestStopsAtMaxTrail(t *testing.T) {
+	t.Parallel()
 	o := outlookOf(compiled(t, endless))
 	for _, every := range []int{50, 1000} {
 		last := o.cameTo(t, every, 9000)
@@ -291,6 +292,7 @@ func TestStopsAtMaxTrail(t *testing.T) {
 
 // Machines that end at just the last step that is allowed, and one behind it.
 func TestStopsAtTheEnd(t *testing.T) {
+	t.Parallel()
 	for _, kind := range []int{impl.VmDone, impl.VmError, impl.VmBad} {
 		for _, end := range []int{3, 60, 3000, 3001} {
 			o := outlookOf(endingAt(kind, end))

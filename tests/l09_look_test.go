@@ -428,6 +428,7 @@ func TestNamesThatStandTwice(t *testing.T) {
 }
 
 func TestNamesWithoutACell(t *testing.T) {
+	t.Parallel()
 	cells := values(intOf(10), intOf(11), intOf(12))
 	a, b, c := nameOf("a", 0, 0, 9), nameOf("b", 1, 0, 9), nameOf("c", 2, 0, 9)
 	again := nameOf("a", 2, 0, 9)
@@ -609,6 +610,7 @@ func TestChangedAtTheFirstSteps(t *testing.T) {
 }
 
 func TestChangedAtMaxTrail(t *testing.T) {
+	t.Parallel()
 	// A round takes seven steps, and i is set at step 9 for the first time.
 	counts := watchOf(compiled(t, "local i = 0 local k = 5 while true do i = i + 1 end"))
 	for _, every := range []int{1, 50, 1000} {

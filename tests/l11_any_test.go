@@ -174,6 +174,7 @@ var classesToMeet = []string{
 
 // Promise 11: any commands in any order, from the empty session.
 func TestAnySessions(t *testing.T) {
+	t.Parallel()
 	sources := sourcesToTalkOf()
 	const groups = 6
 	var all [groups]map[string]int

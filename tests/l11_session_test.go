@@ -348,6 +348,7 @@ func TestRunOfASession(t *testing.T) {
 
 // A line that is just MaxRun steps away is met, one that is a step further is not; back there is no such bound.
 func TestRunAsFarAsItGoes(t *testing.T) {
+	t.Parallel()
 	// endingAt stands in a line of its own at each step.
 	l := launchingByHand(endingAt(impl.VmDone, 9100))
 	for _, c := range []struct {
